@@ -29,6 +29,10 @@ class Machine:
         """Return a new list of the places where walks begin."""
         return list(self._begins)
 
+    def places(self):
+        """Return a new list of all places."""
+        return list(range(len(self._marks)))
+
     def has_place(self, thing):
         """Tell whether thing, which may be anything, is a place of this machine."""
         return _is_place(thing, len(self._marks))

@@ -31,6 +31,16 @@ def need_saying(thing):
     return thing
 
 
+def own_bonds(saying):
+    """Return the bonds that a saying brings besides those of its parts, the inner one first."""
+    if saying[0] in ("next", "till", "always"):
+        return [saying]
+    if saying[0] == "again":
+        later = ("till", ("yes",), saying[1])
+        return [later, ("always", later)]
+    return []
+
+
 def _is_saying_within(thing, room):
     """Tell whether thing is a saying with at most room sayings within one another."""
     # The first one must be a text before it is looked up: a list cannot be a key.
@@ -50,16 +60,6 @@ def _add_bonds(saying, row):
     # What stands within comes first, so that each bond is behind those that stand in it.
     for part in saying[1:]:
         _add_bonds(part, row)
-    for bond in _own_bonds(saying):
+    for bond in own_bonds(saying):
         if bond not in row:
             row.append(bond)
-
-
-def _own_bonds(saying):
-    """Return the bonds that a saying brings besides those of its parts, the inner one first."""
-    if saying[0] in ("next", "till", "always"):
-        return [saying]
-    if saying[0] == "again":
-        later = ("till", ("yes",), saying[1])
-        return [later, ("always", later)]
-    return []

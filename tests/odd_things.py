@@ -29,7 +29,7 @@ def nested(kind, depth):
 
 
 def odd_things():
-    """A new list of things none of which is a saying, a mark, or a place, a row or a part of a machine of few places."""
+    """A new list of things, none of them a saying, a mark, or a place, a row or a part of a machine of few places."""
     return [
         None, True, False, -1, 12, 10 ** 30, -(10 ** 30), 1.5, 0.0, float("nan"), 2j,
         "A", "seven letters", "abcdefg", "a b", "a\n", "\n", " ", "0", "a1", "~", "a" * 100000,

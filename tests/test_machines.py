@@ -50,6 +50,15 @@ class MachineTest(unittest.TestCase):
         self.assertIs(type(machine.starts()), list)
 
 
+class PlacesTest(unittest.TestCase):
+    def test_all_places(self):
+        for many in range(1, 13):
+            machine = Machine(*circle(many))
+            machine.places().clear()
+            self.assertEqual(machine.places(), list(range(many)))
+            self.assertIs(type(machine.places()), list)
+
+
 class RefusalTest(unittest.TestCase):
     def need_bad(self, marks, ways, begins):
         with self.assertRaises(BadMachine) as caught:
